@@ -1,0 +1,1 @@
+"""Counts that begin anew: what was counted at the least, told from samples."""
