@@ -9,8 +9,8 @@ MOST_SAMPLES = 60
 LATEST_TIME = 1000000
 MOST_SHOWN = 1000000000
 
-# By a call's number: how many whole numbers stand behind it.
-NUMBERS_BEHIND = {1: 1, 2: 3, 3: 2, 4: 3, 5: 3, 6: 3}
+# By a call's number: how many whole numbers stand behind it. Of sum_of the third is its list's length.
+NUMBERS_BEHIND = {1: 1, 2: 3, 3: 2, 4: 3, 5: 3, 6: 3, 7: 2, 8: 2, 9: 3, 10: 3, 11: 3, 12: 1}
 
 
 class House:
@@ -64,6 +64,39 @@ def total_between(samples, a, b):
     if to_a is None or to_b is None:
         return None
     return (to_b[0] * to_a[1] - to_a[0] * to_b[1], to_a[1] * to_b[1])
+
+
+def earliest_time(samples, upper, lower):
+    """The earliest time up to which upper / lower, above 0, has been counted, as (upper, lower).
+
+    None if so much wasn't counted.
+    """
+    missing = upper
+    for before, after in neighbours(samples):
+        step = counted_between(before, after) * lower
+        # Something is always missing here, so a step that reaches it isn't 0.
+        if missing <= step:
+            return (before[0] * step + missing * (after[0] - before[0]), step)
+        missing = missing - step
+    return None
+
+
+def exceeds(one, other):
+    """Whether one (upper, lower) is greater than another."""
+    return one[0] * other[1] > other[0] * one[1]
+
+
+def ranked_totals(house, a, b):
+    """The known totals from a to b as (series, total), the greatest first, of as great ones the lesser series."""
+    ranked = []
+    for number, samples in enumerate(house.series):
+        found = total_between(samples, a, b)
+        if found is not None:
+            at = 0
+            while at < len(ranked) and not exceeds(found, ranked[at][1]):
+                at = at + 1
+            ranked.insert(at, (number, found))
+    return ranked
 
 
 def lowest_terms(upper, lower):
@@ -143,8 +176,94 @@ def anew(house, series, a, b):
     return [often]
 
 
+def gaps(house, series, g):
+    if lacks(house, series):
+        return [-2]
+    many = 0
+    times = []
+    for before, after in neighbours(house.series[series]):
+        if after[0] - before[0] > g:
+            many = many + 1
+            times.extend([before[0], after[0]])
+    return [many] + times
+
+
+def most(house, series, w):
+    if lacks(house, series):
+        return [-2]
+    if w == 0:
+        return [-1]
+    samples = house.series[series]
+    begins = 0
+    greatest = None
+    # By their times, so that of windows as great the first one stays.
+    for t in sorted(list(samples) + [time - w for time in samples]):
+        found = total_between(samples, t, t + w)
+        if found is not None and (greatest is None or exceeds(found, greatest)):
+            begins = t
+            greatest = found
+    if greatest is None:
+        return [-3]
+    return [begins] + lowest_terms(greatest[0], greatest[1])
+
+
+def when(house, series, a, x):
+    if lacks(house, series):
+        return [-2]
+    samples = house.series[series]
+    to_a = counted_up_to(samples, a)
+    if to_a is None:
+        return [-3]
+    if x == 0:
+        return [a, 1]
+    found = earliest_time(samples, to_a[0] + x * to_a[1], to_a[1])
+    if found is None:
+        return [-6]
+    return lowest_terms(found[0], found[1])
+
+
+def sum_of(house, a, b, some):
+    if b < a:
+        return [-1]
+    if any([lacks(house, series) for series in some]):
+        return [-2]
+    upper = 0
+    lower = 1
+    for series, samples in enumerate(house.series):
+        often = some.count(series)
+        if often > 0:
+            found = total_between(samples, a, b)
+            if found is None:
+                return [-3]
+            upper = upper * found[1] + often * found[0] * lower
+            lower = lower * found[1]
+    return lowest_terms(upper, lower)
+
+
+def top(house, n, a, b):
+    if b < a:
+        return [-1]
+    ranked = ranked_totals(house, a, b)
+    many = min(n, len(ranked))
+    told = [many]
+    for series, found in ranked[:many]:
+        told.append(series)
+        told.extend(lowest_terms(found[0], found[1]))
+    return told
+
+
+def list_of(house, series):
+    if lacks(house, series):
+        return [-2]
+    samples = house.series[series]
+    told = [len(samples)]
+    for time, shows in sorted(samples.items()):
+        told.extend([time, shows])
+    return told
+
+
 def answer_call(house, call):
-    """What one call answers; call is its number and the numbers behind it."""
+    """What one call answers; call is its number and all that stands behind it."""
     if call[0] == 1:
         return begin(house, call[1])
     if call[0] == 2:
@@ -155,7 +274,27 @@ def answer_call(house, call):
         return total(house, call[1], call[2], call[3])
     if call[0] == 5:
         return rate(house, call[1], call[2], call[3])
-    return anew(house, call[1], call[2], call[3])
+    if call[0] == 6:
+        return anew(house, call[1], call[2], call[3])
+    if call[0] == 7:
+        return gaps(house, call[1], call[2])
+    if call[0] == 8:
+        return most(house, call[1], call[2])
+    if call[0] == 9:
+        return when(house, call[1], call[2], call[3])
+    if call[0] == 10:
+        return sum_of(house, call[1], call[2], call[4:])
+    if call[0] == 11:
+        return top(house, call[1], call[2], call[3])
+    return list_of(house, call[1])
+
+
+def end_of_call(calls, at):
+    """Where the call ends that begins at a place of the list."""
+    end = at + 1 + NUMBERS_BEHIND[calls[at]]
+    if calls[at] == 10:
+        return end + calls[at + 3]
+    return end
 
 
 def answers(calls):
@@ -164,7 +303,7 @@ def answers(calls):
     told = []
     at = 0
     while at < len(calls):
-        end = at + 1 + NUMBERS_BEHIND[calls[at]]
+        end = end_of_call(calls, at)
         answered = answer_call(house, calls[at:end])
         told.append(len(answered))
         told.extend(answered)

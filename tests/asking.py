@@ -29,6 +29,30 @@ def anew(series, a, b):
     return (6, series, a, b)
 
 
+def gaps(series, g):
+    return (7, series, g)
+
+
+def most(series, w):
+    return (8, series, w)
+
+
+def when(series, a, x):
+    return (9, series, a, x)
+
+
+def sum_of(a, b, *some):
+    return (10, a, b, len(some)) + some
+
+
+def top(n, a, b):
+    return (11, n, a, b)
+
+
+def list_of(series):
+    return (12, series)
+
+
 def samples(series, *pairs):
     return [sample(series, time, shows) for time, shows in pairs]
 
@@ -54,7 +78,10 @@ def ask(calls):
     """One list for each call; calls are at most 60, as the document has it."""
     if not 1 <= len(calls) <= 60:
         raise AssertionError("a test hands in 1 to 60 calls")
-    told = answers(flat(calls))
+    handed = flat(calls)
+    if len(handed) > 16000:
+        raise AssertionError("a test hands in at most 16000 numbers")
+    told = answers(handed)
     if type(told) is not list or any(type(number) is not int for number in told):
         raise AssertionError(f"not a list of whole numbers: {told}")
     found = apart(told)

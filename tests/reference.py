@@ -11,7 +11,9 @@ class Reference:
     def __init__(self):
         self.series = [[]]
         self.by_number = {1: self.begin, 2: self.sample, 3: self.out,
-                          4: self.total, 5: self.rate, 6: self.anew}
+                          4: self.total, 5: self.rate, 6: self.anew,
+                          7: self.gaps, 8: self.most, 9: self.when,
+                          10: self.sum_of, 11: self.top, 12: self.list_of}
 
     def begin(self, series):
         if series not in range(1, 9):
@@ -84,6 +86,67 @@ class Reference:
         if b < a:
             return [-1]
         return [len([1 for (t, s), (u, v) in self.steps(series) if v < s and t >= a and u <= b])]
+
+    def gaps(self, series, g):
+        if series not in range(len(self.series)):
+            return [-2]
+        found = [(t, u) for (t, s), (u, v) in self.steps(series) if t + g < u]
+        return [len(found)] + [time for both in found for time in both]
+
+    def most(self, series, w):
+        if series not in range(len(self.series)):
+            return [-2]
+        if w < 1:
+            return [-1]
+        times = {t for t, s in self.series[series]}
+        windows = [(self.fraction_between(series, t, t + w), -t) for t in times | {t - w for t in times}]
+        windows = [window for window in windows if window[0] is not None]
+        if not windows:
+            return [-3]
+        greatest, t = max(windows)
+        return [-t, greatest.numerator, greatest.denominator]
+
+    def when(self, series, a, x):
+        if series not in range(len(self.series)):
+            return [-2]
+        if self.fraction_between(series, a, a) is None:
+            return [-3]
+        if x == 0:
+            return [a, 1]
+        first = self.series[series][0][0]
+        wanted = self.fraction_between(series, first, a) + x
+        reached = []
+        for (t, s), (u, v) in self.steps(series):
+            if grown(s, v) > 0:
+                time = t + (wanted - self.fraction_between(series, first, t)) * (u - t) / grown(s, v)
+                if t <= time <= u:
+                    reached.append(time)
+        return [min(reached).numerator, min(reached).denominator] if reached else [-6]
+
+    def sum_of(self, a, b, many, *some):
+        if b < a:
+            return [-1]
+        if any(series not in range(len(self.series)) for series in some):
+            return [-2]
+        known = [self.fraction_between(series, a, b) for series in range(len(self.series))]
+        totals = [known[series] for series in some]
+        if None in totals:
+            return [-3]
+        found = sum(totals, Fraction(0))
+        return [found.numerator, found.denominator]
+
+    def top(self, n, a, b):
+        if b < a:
+            return [-1]
+        totals = [(self.fraction_between(series, a, b), series) for series in range(len(self.series))]
+        known = sorted((-found, series) for found, series in totals if found is not None)[:n]
+        return [len(known)] + [number for found, series in known
+                               for number in (series, -found.numerator, found.denominator)]
+
+    def list_of(self, series):
+        if series not in range(len(self.series)):
+            return [-2]
+        return [len(self.series[series])] + [number for pair in self.series[series] for number in pair]
 
 
 def expected(calls):

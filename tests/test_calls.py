@@ -1,4 +1,4 @@
-"""Each call at ordinary inputs and at the edges that the document names."""
+"""The calls 1 to 6 at ordinary inputs and at the edges that the document names."""
 
 import unittest
 

@@ -23,7 +23,8 @@ class Package(unittest.TestCase):
     def test_nothing_is_printed_and_nothing_read(self):
         script = ("import anewcounts.counters as c, sys\n"
                   "sys.stdin = None\n"
-                  "c.answers([1, 2, 2, 0, 1, 1, 2, 0, 3, 9, 4, 0, 1, 2, 5, 0, 1, 3, 6, 0, 0, 9, 3, 0, 1, 3, 0, 1])\n")
+                  "c.answers([1, 2, 2, 0, 1, 1, 2, 0, 3, 9, 4, 0, 1, 2, 5, 0, 1, 3, 6, 0, 0, 9, 7, 0, 1,"
+                  " 8, 0, 1, 9, 0, 1, 2, 10, 1, 2, 1, 0, 11, 1, 1, 2, 12, 0, 3, 0, 1, 3, 0, 1])\n")
         done = subprocess.run([sys.executable, "-B", "-c", script], cwd=TOP, capture_output=True, check=True)
         self.assertEqual((done.stdout, done.stderr), (b"", b""))
 

@@ -1,11 +1,11 @@
-"""Promises 1, 2 and 3: the least, more samples, and pieces of the whole."""
+"""The promises: the least, more samples, pieces of the whole, the greatest window, the earliest time."""
 
 import random
 import unittest
 from fractions import Fraction
 from itertools import product
 
-from tests.asking import ask, last, samples, total
+from tests.asking import ask, last, most, samples, total, when
 
 
 def told_total(pairs):
@@ -62,6 +62,26 @@ def just_so_much(pairs):
 def some_pairs(chance, many, latest, most):
     times = sorted(chance.sample(range(latest + 1), many))
     return [(time, chance.randint(0, most)) for time in times]
+
+
+def whole_times(pairs):
+    """Every whole time from the first sample to the last."""
+    times = [time for time, shows in pairs]
+    return range(min(times), max(times) + 1)
+
+
+def asked_on(pairs, calls):
+    """What each of many calls answers on a series with these samples, in lists of at most 60 calls."""
+    held = samples(0, *pairs)
+    room = 60 - len(held)
+    found = []
+    for start in range(0, len(calls), room):
+        found += ask(held + calls[start:start + room])[len(held):]
+    return found
+
+
+def totals_on(pairs, spans):
+    return [Fraction(upper, lower) for upper, lower in asked_on(pairs, [total(0, a, b) for a, b in spans])]
 
 
 class TheLeast(unittest.TestCase):
@@ -133,6 +153,79 @@ class PiecesMakeTheWhole(unittest.TestCase):
             pairs = some_pairs(chance, chance.randint(2, 50), 10 ** 6, chance.choice((3, 1000, 10 ** 9)))
             a, b, c = sorted(chance.randint(pairs[0][0], pairs[-1][0]) for _ in range(3))
             self.check(pairs, a, b, c)
+
+
+class NoGreaterWindow(unittest.TestCase):
+    def check(self, pairs, w):
+        t, upper, lower = last(samples(0, *pairs) + [most(0, w)])
+        spans = [(start, start + w) for start in whole_times(pairs) if start + w in whole_times(pairs)]
+        found = totals_on(pairs, spans)
+        self.assertEqual(max(found), Fraction(upper, lower), (pairs, w))
+        self.assertEqual(found[spans.index((t, t + w))], Fraction(upper, lower), (pairs, w))
+        self.assertEqual((Fraction(upper, lower).numerator, Fraction(upper, lower).denominator), (upper, lower))
+
+    def check_every_length(self, pairs):
+        longest = len(whole_times(pairs)) - 1
+        for w in range(1, longest + 1):
+            self.check(pairs, w)
+        self.assertEqual(asked_on(pairs, [most(0, longest + 1)]), [[-3]])
+
+    def test_small_ones_all(self):
+        for shown in product(range(4), repeat=4):
+            self.check_every_length(list(zip((1, 2, 4, 7), shown)))
+
+    def test_a_longer_one(self):
+        self.check_every_length([(2, 5), (5, 1), (9, 8), (12, 8), (14, 0), (15, 6), (22, 90), (40, 91)])
+
+    def test_others(self):
+        chance = random.Random(9)
+        for _ in range(150):
+            latest = chance.choice((25, 100, 300))
+            pairs = some_pairs(chance, chance.randint(2, 20), latest, chance.choice((3, 10 ** 9)))
+            self.check(pairs, chance.randint(1, len(whole_times(pairs)) - 1))
+
+
+class TheEarliestTime(unittest.TestCase):
+    def check(self, pairs, a, x):
+        """Holds when's time against what was counted up to each whole time."""
+        answered = last(samples(0, *pairs) + [when(0, a, x)])
+        times = whole_times(pairs)
+        counted = totals_on(pairs, [(times[0], time) for time in times])
+        wanted = counted[times.index(a)] + x
+        if answered == [-6]:
+            self.assertLess(counted[-1], wanted, (pairs, a, x))
+            return
+        found = Fraction(answered[0], answered[1])
+        self.assertEqual([found.numerator, found.denominator], answered)
+        self.assertTrue(a <= found <= times[-1], (pairs, a, x))
+        for time, up_to in zip(times, counted):
+            self.assertEqual(time >= found, up_to >= wanted, (pairs, a, x, time))
+
+    def test_small_ones_all(self):
+        for shown in product(range(3), repeat=4):
+            pairs = list(zip((1, 2, 4, 7), shown))
+            for a in range(1, 8):
+                for x in range(1, 7):
+                    self.check(pairs, a, x)
+
+    def test_others(self):
+        chance = random.Random(10)
+        for _ in range(200):
+            pairs = some_pairs(chance, chance.randint(2, 20), chance.choice((25, 100)), chance.choice((1, 9, 10 ** 9)))
+            whole = int(told_total(pairs))
+            a = chance.choice(whole_times(pairs))
+            self.check(pairs, a, 1 + chance.randint(0, whole))
+            self.check(pairs, a, 1)
+
+    def test_nothing_more(self):
+        # a itself is told, also where as much was counted up to times ahead of it.
+        pairs = [(2, 5), (5, 1), (9, 8), (12, 8), (14, 0), (15, 6)]
+        times = whole_times(pairs)
+        counted = totals_on(pairs, [(2, time) for time in times])
+        self.assertEqual(asked_on(pairs, [when(0, a, 0) for a in times]), [[a, 1] for a in times])
+        self.assertEqual(counted, sorted(counted))
+        for a in (2, 3, 5, 6, 9, 15):
+            self.check(pairs, a, 0)
 
 
 if __name__ == "__main__":

@@ -2,13 +2,16 @@
 
 import unittest
 
-from tests.asking import BIG, anew, ask, begin, last, out, rate, sample, samples, total
+from tests.asking import (BIG, anew, ask, begin, gaps, last, list_of, most, out, rate, sample, samples, sum_of, top,
+                          total, when)
 
 HELD = [begin(2)] + samples(0, (10, 5), (20, 3)) + samples(1, (7, 8), (9, 8), (8, 1))
 
 # Each sees something of what is held.
 PROBES = (samples(0, (10, 5), (20, 3)) + samples(1, (7, 8), (8, 1), (9, 8))
           + [total(0, 10, 20), total(1, 7, 9), rate(0, 11, 17), rate(1, 7, 8), anew(0, 0, BIG), anew(1, 0, BIG),
+             list_of(0), list_of(1), list_of(2), gaps(0, 9), gaps(1, 0), most(0, 3), most(1, 1), when(0, 10, 2),
+             when(1, 7, 3), sum_of(8, 8, 1, 1), top(2, 7, 9), top(2, 10, 20),
              sample(2, 0, 0), out(0, 10), out(0, 20), out(1, 7), out(1, 8), out(1, 9)])
 
 # A call on what is held, and what it is refused with.
@@ -48,6 +51,39 @@ REFUSED = [
     (anew(2, 10, 20), -2),
     (anew(2, 20, 10), -2),
     (anew(0, 20, 10), -1),
+    (gaps(2, 0), -2),
+    (gaps(2, 9), -2),
+    (most(2, 0), -2),
+    (most(2, 1), -2),
+    (most(2, 11), -2),
+    (most(0, 0), -1),
+    (most(0, 11), -3),
+    (when(2, 10, 1), -2),
+    (when(2, 9, 0), -2),
+    (when(2, 10, 9), -2),
+    (when(0, 9, 0), -3),
+    (when(0, 21, 0), -3),
+    (when(0, 9, 1), -3),
+    (when(0, 21, 1), -3),
+    (when(0, 9, 4), -3),
+    (when(0, 10, 4), -6),
+    (when(0, 20, 1), -6),
+    (sum_of(20, 10), -1),
+    (sum_of(20, 10, 0), -1),
+    (sum_of(20, 10, 2), -1),
+    (sum_of(9, 8, 0), -1),
+    (sum_of(9, 8, 0, 2), -1),
+    (sum_of(10, 20, 2), -2),
+    (sum_of(10, 20, 0, 2), -2),
+    (sum_of(10, 20, 1, 2), -2),
+    (sum_of(10, 20, 2, 1), -2),
+    (sum_of(10, 20, 1), -3),
+    (sum_of(10, 20, 0, 1), -3),
+    (sum_of(10, 20, 1, 0), -3),
+    (top(0, 20, 10), -1),
+    (top(2, 20, 10), -1),
+    (top(2, 3, 2), -1),
+    (list_of(2), -2),
 ]
 
 # Each call with the greatest number at each of its places, and at several, on what is held.
@@ -78,6 +114,34 @@ GREATEST = [
     (anew(0, 10, BIG), [1]),
     (anew(0, BIG, BIG), [0]),
     (anew(BIG, BIG, 0), [-2]),
+    (gaps(BIG, 9), [-2]),
+    (gaps(0, BIG), [0]),
+    (gaps(BIG, BIG), [-2]),
+    (most(BIG, 3), [-2]),
+    (most(BIG, 0), [-2]),
+    (most(0, BIG), [-3]),
+    (most(BIG, BIG), [-2]),
+    (when(BIG, 10, 1), [-2]),
+    (when(0, BIG, 1), [-3]),
+    (when(0, BIG, 0), [-3]),
+    (when(0, 10, BIG), [-6]),
+    (when(0, 11, BIG), [-6]),
+    (when(0, BIG, BIG), [-3]),
+    (when(BIG, BIG, BIG), [-2]),
+    (sum_of(BIG, 20, 0), [-1]),
+    (sum_of(10, BIG, 0), [-3]),
+    (sum_of(10, BIG), [0, 1]),
+    (sum_of(BIG, BIG), [0, 1]),
+    (sum_of(10, 20, BIG), [-2]),
+    (sum_of(10, 20, 0, BIG), [-2]),
+    (sum_of(10, 20, *[BIG] * 1024), [-2]),
+    (sum_of(BIG, BIG, BIG), [-2]),
+    (top(BIG, 10, 20), [1, 0, 3, 1]),
+    (top(2, BIG, 20), [-1]),
+    (top(2, 10, BIG), [0]),
+    (top(BIG, BIG, BIG), [0]),
+    (top(BIG, BIG, 0), [-1]),
+    (list_of(BIG), [-2]),
 ]
 
 
@@ -103,7 +167,8 @@ class Refusals(unittest.TestCase):
 
     def test_asking_changes_nothing(self):
         before = ask(HELD + PROBES)[len(HELD):]
-        asked = [total(0, 10, 20), total(1, 7, 9), rate(0, 10, 20), anew(1, 0, 99), sample(0, 10, 5)]
+        asked = [total(0, 10, 20), total(1, 7, 9), rate(0, 10, 20), anew(1, 0, 99), sample(0, 10, 5), gaps(1, 0),
+                 most(0, 3), when(1, 7, 2), sum_of(8, 9, 1, 1), top(2, 10, 20), list_of(1)]
         self.assertEqual(ask(HELD + asked + PROBES)[len(HELD) + len(asked):], before)
 
     def test_the_greatest_numbers(self):

@@ -4,7 +4,8 @@ import random
 import unittest
 
 from anewcounts.counters import answers
-from tests.asking import BIG, anew, ask, begin, flat, out, rate, sample, samples, total
+from tests.asking import (BIG, anew, ask, begin, flat, gaps, list_of, most, out, rate, sample, samples, sum_of, top,
+                          total, when)
 from tests.reference import expected
 
 
@@ -26,29 +27,45 @@ def some_series(chance, series):
     return chance.randint(0, series - 1)
 
 
-def some_call(chance, series, latest, most):
-    number = chance.choice((2, 2, 2, 2, 3, 4, 4, 5, 6))
+def some_length(chance, latest):
+    return chance.choice((some_time(chance, latest), chance.randint(0, 1 + latest // 5)))
+
+
+def two_times(chance, latest):
+    both = [some_time(chance, latest), some_time(chance, latest)]
+    return sorted(both) if chance.random() < 0.8 else both
+
+
+def some_call(chance, series, latest, greatest):
+    number = chance.choice((2,) * 10 + (3, 4, 5, 6, 7, 8, 8, 9, 9, 10, 11, 12))
     which = some_series(chance, series)
     if number == 2:
-        return sample(which, some_time(chance, latest), some_shows(chance, most))
+        return sample(which, some_time(chance, latest), some_shows(chance, greatest))
     if number == 3:
         return out(which, some_time(chance, latest))
-    a = some_time(chance, latest)
-    b = some_time(chance, latest)
-    if chance.random() < 0.8:
-        a, b = min(a, b), max(a, b)
-    return (number, which, a, b)
+    if number in (7, 8):
+        return (number, which, some_length(chance, latest))
+    if number == 9:
+        return when(which, some_time(chance, latest), some_shows(chance, 1 + greatest // chance.choice((1, 3))))
+    if number == 10:
+        many = chance.choice((0, 1, 2, 3, 9))
+        return sum_of(*two_times(chance, latest), *[some_series(chance, series) for _ in range(many)])
+    if number == 11:
+        return top(chance.choice((0, 1, 2, 3, 8, BIG)), *two_times(chance, latest))
+    if number == 12:
+        return list_of(which)
+    return (number, which, *two_times(chance, latest))
 
 
 def some_calls(chance):
     series = chance.choice((1, 1, 2, 3, 8))
     latest = chance.choice((6, 20, 1000, 10 ** 6))
-    most = chance.choice((2, 10, 10 ** 9))
+    greatest = chance.choice((2, 10, 10 ** 9))
     calls = [begin(series)] if series > 1 or chance.random() < 0.5 else []
     while len(calls) < 60:
         if chance.random() < 0.01:
             calls.append(begin(chance.choice((0, series, 9, BIG))))
-        calls.append(some_call(chance, series, latest, most))
+        calls.append(some_call(chance, series, latest, greatest))
     return calls[:chance.choice((1, 30, 60, 60, 60))]
 
 
@@ -72,24 +89,74 @@ class WholeLists(unittest.TestCase):
     def test_numbers_of_every_size_at_every_place(self):
         chance = random.Random(6)
         sizes = (0, 1, 2, 5, 8, 9, 10 ** 6, 10 ** 6 + 1, 10 ** 9, 10 ** 9 + 1, 2 ** 63, BIG)
-        behind = {1: 1, 2: 3, 3: 2, 4: 3, 5: 3, 6: 3}
-        for _ in range(1000):
+        behind = {1: 1, 2: 3, 3: 2, 4: 3, 5: 3, 6: 3, 7: 2, 8: 2, 9: 3, 10: 2, 11: 3, 12: 1}
+        for _ in range(1500):
             calls = []
             for _ in range(60):
-                number = chance.randint(1 if chance.random() < 0.1 else 2, 6)
+                number = chance.choice((2, 2, chance.randint(1 if chance.random() < 0.1 else 2, 12)))
                 first = chance.choice((0, 0, 0, chance.choice(sizes)))
-                calls.append((number, first) + tuple(chance.choice(sizes) for _ in range(behind[number] - 1)))
+                call = (number, first) + tuple(chance.choice(sizes) for _ in range(behind[number] - 1))
+                if number == 10:
+                    some = chance.choices((0, 0, 0, chance.choice(sizes)), k=chance.choice((0, 1, 2, 5)))
+                    call = sum_of(*call[1:], *some)
+                calls.append(call)
             self.assertEqual(ask(calls), expected(calls), calls)
+
+    def test_all_twelve_among_them(self):
+        chance = random.Random(8)
+        met = 0
+        while met < 300:
+            calls = some_calls(chance)
+            if len(calls) == 60 and len({call[0] for call in calls}) == 12:
+                met += 1
+                self.assertEqual(ask(calls), expected(calls), calls)
+
+    def test_eight_series_that_are_known(self):
+        chance = random.Random(11)
+        for _ in range(500):
+            greatest = chance.choice((1, 3, 10 ** 9))
+            latest = chance.choice((4, 100, 10 ** 6))
+            calls = [begin(8)]
+            for series in range(8):
+                calls += samples(series, *[(time, chance.randint(0, greatest)) for time in (latest, 0)])
+                calls.append(sample(series, chance.randint(1, latest - 1), chance.randint(0, greatest)))
+            while len(calls) < 60:
+                a, b = two_times(chance, latest)
+                calls.append(top(chance.choice((0, 1, 4, 7, 8, 9)), a, b))
+                calls.append(sum_of(a, b, *chance.choices(range(8), k=chance.choice((1, 8, 20)))))
+            self.assertEqual(ask(calls[:60]), expected(calls[:60]), calls)
+
+    def test_sixteen_thousand_numbers(self):
+        calls = [begin(2)] + samples(0, (0, 0), (3, 1)) + samples(1, (0, 0), (7, 2))
+        calls += [sum_of(0, 1, *[chosen % 2 for chosen in range(1024)]) for _ in range(15)]
+        calls.append(sum_of(0, 1, *[1] * 558))
+        self.assertEqual(len(flat(calls)), 16000)
+        self.assertEqual(ask(calls)[5:], [[512 * 13, 21]] * 15 + [[1116, 7]])
 
     def test_sixty_calls(self):
         calls = [sample(0, 1000 * k, 10 ** 9 - k % 2) for k in range(56)]
         calls += [total(0, 0, 55000), rate(0, 0, 55000), anew(0, 0, BIG), out(0, 0)]
         self.assertEqual(ask(calls)[-4:], [[28 * (10 ** 9 - 1) + 27, 1], [28 * 10 ** 9 - 1, 55000], [28], [55]])
 
+    def test_sixty_calls_with_the_later_ones(self):
+        calls = [sample(0, 1000 * k, 10 ** 9 - k % 2) for k in range(50)]
+        calls += [gaps(0, 999), gaps(0, 1000), most(0, 1000), most(0, 1001), when(0, 0, 10 ** 9), when(0, 500, 1),
+                  sum_of(0, 49000, 0, 0), top(1, 0, 49000), list_of(0), out(0, 0)]
+        found = ask(calls)[50:]
+        pairs = [(1000 * k, 10 ** 9 - k % 2) for k in range(50)]
+        whole = 25 * (10 ** 9 - 1) + 24
+        self.assertEqual(found[0], [49] + [time for k in range(49) for time in (1000 * k, 1000 * k + 1000)])
+        self.assertEqual(found[1:4], [[0], [0, 10 ** 9 - 1, 1], [0, 10 ** 12 - 999, 1000]])
+        self.assertEqual(found[4:6], [[2000, 1], [500 * (10 ** 9 - 1) + 1000, 10 ** 9 - 1]])
+        self.assertEqual(found[6:8], [[2 * whole, 1], [1, 0, whole, 1]])
+        self.assertEqual(found[8:], [[50] + [number for pair in pairs for number in pair], [49]])
+
 
 class HandedIn(unittest.TestCase):
     CALLS = flat([begin(2)] + samples(1, (30, 2), (10, 7), (30, 2), (30, 3))
-                 + [total(1, 11, 20), rate(1, 10, 30), anew(1, 0, 99), out(1, 30), total(1, 10, 30)])
+                 + [total(1, 11, 20), rate(1, 10, 30), anew(1, 0, 99), gaps(1, 3), most(1, 7), when(1, 11, 1),
+                    sum_of(10, 13, 1, 1), sum_of(1, 2, 0, 1), top(2, 10, 13), list_of(1),
+                    out(1, 30), total(1, 10, 30), list_of(1)])
 
     def test_the_list_is_as_it_was(self):
         calls = list(self.CALLS)
